@@ -217,7 +217,7 @@ func three() api.Heap {
 	return looked(one(40, 41, span(1, 2), span(1, 2)), look(0, 0, 42, 42), look(0, 1, 0, 43), look(0, 0, 0, 41), look(0, 1, 43, 43))
 }
 
-// P3.6
+// P3.6, P4
 func TestFalse(t *testing.T) {
 	for i, x := range []struct {
 		h           api.Heap
@@ -237,7 +237,7 @@ func TestFalse(t *testing.T) {
 	}
 }
 
-// P3.7
+// P3.7, P4
 func TestClash(t *testing.T) {
 	for i, x := range []struct {
 		h    api.Heap
